@@ -1,0 +1,1 @@
+"""Pleathall: the fewest folds."""

@@ -1,0 +1,287 @@
+"""Packets of a folded sheet: when one is right, and what one fold makes of it.
+
+A square of a packet is the tuple (x, y, turned left to right, turned bottom to top, layer). What is said of
+x and of y alike takes an axis, 0 for x and 1 for y: square[axis] and square[TURNED + axis] belong together.
+
+A fold is the tuple (upright, k, high, over, held), so that it is told as it stands.
+"""
+
+MOST_SQUARES = 6
+FURTHEST = 100
+
+NUMBERS = 5
+TURNED = 2
+LAYER = 4
+
+UPRIGHT = 0
+LINE = 1
+HIGH = 2
+OVER = 3
+HELD = 4
+
+
+def moves(w, h, packet):
+    """Answer how many moves the packet has."""
+    refused = refusal(w, h, packet)
+    if len(refused) > 0:
+        return refused
+    return [0, len(moves_of(w, at_home(squares_of(packet))))]
+
+
+def move(w, h, k, packet):
+    """Answer the k-th move: its fold, and the row of the packet that it comes to."""
+    refused = refusal(w, h, packet)
+    if len(refused) > 0:
+        return refused
+    found = moves_of(w, at_home(squares_of(packet)))
+    if k >= len(found):
+        return [-2]
+    return answered_row(list(found[k][0]) + row_of(found[k][1]))
+
+
+def answered_row(row):
+    return [0, len(row)] + row
+
+
+def refusal(w, h, packet):
+    """Give the refusal that is due for the sheet or the packet's row, or an empty list."""
+    if not is_sheet(w, h) or not is_row(w, h, packet):
+        return [-1]
+    found = fault(w, squares_of(packet))
+    if len(found) > 0:
+        return [-5] + found
+    return []
+
+
+def is_sheet(w, h):
+    return 1 <= w <= MOST_SQUARES and 1 <= h <= MOST_SQUARES and w * h <= MOST_SQUARES
+
+
+def is_row(w, h, row):
+    if len(row) != NUMBERS * w * h:
+        return False
+    return all([is_square(square) for square in squares_of(row)])
+
+
+def is_square(square):
+    for axis in range(2):
+        if not -FURTHEST <= square[axis] <= FURTHEST:
+            return False
+        if not 0 <= square[TURNED + axis] <= 1:
+            return False
+    return square[LAYER] >= 0
+
+
+def squares_of(row):
+    return [tuple(row[start:start + NUMBERS]) for start in range(0, len(row), NUMBERS)]
+
+
+def row_of(squares):
+    row = []
+    for square in squares:
+        row.extend(square)
+    return row
+
+
+def at_home(squares):
+    least_x = min([square[0] for square in squares])
+    least_y = min([square[1] for square in squares])
+    return [(square[0] - least_x, square[1] - least_y) + square[TURNED:] for square in squares]
+
+
+def same_place(square, other):
+    return square[0] == other[0] and square[1] == other[1]
+
+
+def beside(w, c, d):
+    """Tell whether squares c and d are beside one another on the sheet."""
+    return abs(c % w - d % w) + abs(c // w - d // w) == 1
+
+
+def square_after(w, squares, c, axis):
+    """Give the square to the right of c on the sheet, or the one above it, or None."""
+    if axis == 0:
+        return c + 1 if c % w < w - 1 else None
+    return c + w if c + w < len(squares) else None
+
+
+def square_before(w, c, axis):
+    """Give the square to the left of c on the sheet, or the one below it, or None."""
+    if axis == 0:
+        return c - 1 if c % w > 0 else None
+    return c - w if c >= w else None
+
+
+def fault(w, squares):
+    """Give which fault the packet has, and the square, or an empty list if it is right."""
+    # Each check builds on those before it, so a fault counts only when all squares passed the earlier ones.
+    for c in range(len(squares)):
+        if badly_joined(w, squares, c):
+            return [1, c]
+    for c in range(len(squares)):
+        if badly_layered(squares, c):
+            return [2, c]
+    for c in range(len(squares)):
+        if crosses_another(w, squares, c):
+            return [3, c]
+    return []
+
+
+def badly_joined(w, squares, c):
+    for axis in range(2):
+        d = square_after(w, squares, c, axis)
+        if d is not None and not joined_well(squares[c], squares[d], axis):
+            return True
+    return False
+
+
+def joined_well(square, after, axis):
+    return lie_flat(square, after, axis) or lie_folded(square, after, axis)
+
+
+def lie_flat(square, after, axis):
+    step = 1 if square[TURNED + axis] == 0 else -1
+    return (after[axis] == square[axis] + step and after[1 - axis] == square[1 - axis]
+            and after[TURNED:LAYER] == square[TURNED:LAYER])
+
+
+def lie_folded(square, after, axis):
+    return (same_place(square, after) and after[TURNED + axis] != square[TURNED + axis]
+            and after[TURNED + 1 - axis] == square[TURNED + 1 - axis])
+
+
+def badly_layered(squares, c):
+    layers = sorted([square[LAYER] for square in squares if same_place(square, squares[c])])
+    return layers != list(range(len(layers)))
+
+
+def crosses_another(w, squares, c):
+    """Tell whether c crosses a square of a higher number at its place."""
+    for d in range(c + 1, len(squares)):
+        if same_place(squares[c], squares[d]) and cross(w, squares, c, d):
+            return True
+    return False
+
+
+def cross(w, squares, c, d):
+    for axis in range(2):
+        for high in range(2):
+            if cross_at_side(w, squares, c, d, axis, high):
+                return True
+    return False
+
+
+def cross_at_side(w, squares, c, d, axis, high):
+    c_to = joined_at_side(w, squares, c, axis, high)
+    d_to = joined_at_side(w, squares, d, axis, high)
+    if c_to is None or d_to is None:
+        return False
+    c_turns = same_place(squares[c], squares[c_to])
+    d_turns = same_place(squares[d], squares[d_to])
+    if c_turns and d_turns:
+        return d != c_to and between(squares, d, c, c_to) != between(squares, d_to, c, c_to)
+    if c_turns:
+        return between(squares, d, c, c_to)
+    if d_turns:
+        return between(squares, c, d, d_to)
+    return above(squares, d, c) != above(squares, d_to, c_to)
+
+
+def joined_at_side(w, squares, c, axis, high):
+    """Give the square that c is joined to at the high or low side of its place, or None."""
+    if squares[c][TURNED + axis] != high:
+        return square_after(w, squares, c, axis)
+    return square_before(w, c, axis)
+
+
+def above(squares, c, d):
+    return squares[c][LAYER] > squares[d][LAYER]
+
+
+def between(squares, c, d, e):
+    """Tell whether c's layer lies between those of d and e."""
+    return above(squares, c, d) != above(squares, c, e)
+
+
+def moves_of(w, squares):
+    """Give the moves of a packet at home, each as its fold and the packet that it comes to."""
+    first_folds = {}
+    for fold in folds_in_order(squares):
+        along = going_along(w, squares, fold)
+        if 0 < len(along) < len(squares):
+            comes_to = tuple(at_home(folded(squares, fold, along)))
+            first_folds.setdefault(comes_to, fold)
+    return [(first_folds[comes_to], comes_to) for comes_to in first_folds]
+
+
+def folds_in_order(squares):
+    """Give the folds whose line runs through the packet at home."""
+    folds = []
+    for line in lines_in_order(squares):
+        for high in range(2):
+            for over in range(2):
+                folds.extend([line + (high, over, held) for held in range(len(squares))])
+    return folds
+
+
+def lines_in_order(squares):
+    # At any other line all squares lie on one side: none can be held there, or all go along.
+    level = [(0, k) for k in range(1, max([square[1] for square in squares]) + 1)]
+    upright = [(1, k) for k in range(1, max([square[0] for square in squares]) + 1)]
+    return level + upright
+
+
+def axis_of(fold):
+    return 0 if fold[UPRIGHT] == 1 else 1
+
+
+def on_side(square, fold):
+    """Tell whether the square lies on the side that is folded."""
+    return (square[axis_of(fold)] >= fold[LINE]) == (fold[HIGH] == 1)
+
+
+def going_along(w, squares, fold):
+    """Give the squares that go along, none if the held one does not lie on the side that is folded."""
+    if not on_side(squares[fold[HELD]], fold):
+        return []
+    along = [fold[HELD]]
+    reached = 0
+    while reached < len(along):
+        c = along[reached]
+        along.extend([d for d in range(len(squares)) if d not in along and draws(w, squares, fold, c, d)])
+        reached += 1
+    return along
+
+
+def draws(w, squares, fold, c, d):
+    """Tell whether c, going along, makes d go along."""
+    if beside(w, c, d) and on_side(squares[d], fold):
+        return True
+    if not same_place(squares[c], squares[d]):
+        return False
+    return above(squares, d, c) if fold[OVER] == 1 else above(squares, c, d)
+
+
+def folded(squares, fold, along):
+    placed = [mirrored(square, fold) if c in along else square for c, square in enumerate(squares)]
+    ranks = [rank(square, fold, c in along) for c, square in enumerate(squares)]
+    return [square[:LAYER] + (new_layer(placed, ranks, c),) for c, square in enumerate(placed)]
+
+
+def mirrored(square, fold):
+    axis = axis_of(fold)
+    numbers = list(square)
+    numbers[axis] = 2 * fold[LINE] - 1 - square[axis]
+    numbers[TURNED + axis] = 1 - square[TURNED + axis]
+    return tuple(numbers)
+
+
+def rank(square, fold, goes):
+    """Give what tells, of two squares that come to one place, which lies lower: the one of the lesser rank."""
+    if not goes:
+        return (1, square[LAYER])
+    return (2 * fold[OVER], -square[LAYER])
+
+
+def new_layer(placed, ranks, c):
+    return len([d for d in range(len(placed)) if same_place(placed[d], placed[c]) and ranks[d] < ranks[c]])
