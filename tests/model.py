@@ -42,9 +42,9 @@ def neighbours(w, h, c):
     return found
 
 
-def strip(creases):
-    """Place and turn of each column (or row) of a sheet, by whether each line after it is folded."""
-    at, turned, told = 0, 0, [(0, 0)]
+def strip(creases, turned):
+    """Place and turn of each column (or row) of a sheet, by the first one's turn and the lines that are folded."""
+    at, told = 0, [(0, turned)]
     for crease in creases:
         if crease:
             turned = 1 - turned
@@ -55,9 +55,15 @@ def strip(creases):
 
 
 def packets(w, h):
-    """Rows at home of all packets that have neither fault 1 nor fault 2, not turned at square 0."""
+    """Rows at home of all packets that have neither fault 1 nor fault 2."""
+    for turned in product((0, 1), repeat=2):
+        yield from packets_turned(w, h, turned)
+
+
+def packets_turned(w, h, turned):
+    """Those of packets whose square 0 is turned so."""
     for across, up in product(product((0, 1), repeat=w - 1), product((0, 1), repeat=h - 1)):
-        columns, lines = strip(across), strip(up)
+        columns, lines = strip(across, turned[0]), strip(up, turned[1])
         places = [(columns[c % w], lines[c // w]) for c in range(w * h)]
         spots = sorted({(x, y) for (x, _), (y, _) in places})
         members = [[c for c, ((x, _), (y, _)) in enumerate(places) if (x, y) == spot] for spot in spots]

@@ -127,7 +127,7 @@ class AgainstTheModel(unittest.TestCase):
                 if model.crossing(w, h, row) is None:
                     self.check(w, h, row)
                     checked += 1
-        self.assertGreater(checked, 200)
+        self.assertGreater(checked, 800)
 
     def test_what_two_folds_make_of_six_squares(self):
         for w, h in ((6, 1), (1, 6), (3, 2), (2, 3)):
@@ -148,7 +148,7 @@ class AgainstTheModel(unittest.TestCase):
                 self.check(3, 2, made)
 
     def test_what_a_fold_comes_to_is_right(self):
-        for row in model.packets(3, 2):
+        for row in model.packets_turned(3, 2, (0, 0)):
             if model.crossing(3, 2, row) is None:
                 for answer in all_moves(3, 2, row)[0]:
                     self.assertEqual(moves(3, 2, answer[7:])[0], 0, (row, answer))

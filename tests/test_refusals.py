@@ -220,7 +220,7 @@ class Crossing(Refusals):
         known = {(1, 1): 1, (2, 1): 2, (3, 1): 6, (4, 1): 16, (5, 1): 50, (6, 1): 144, (2, 2): 8, (3, 2): 60}
         for (w, h), number in known.items():
             for sides in {(w, h), (h, w)}:
-                on_one_place = [row for row in model.packets(*sides) if max(row[0::5] + row[1::5]) == 0]
+                on_one_place = [row for row in model.packets_turned(*sides, (0, 0)) if max(row[0::5] + row[1::5]) == 0]
                 right = [row for row in on_one_place if moves(*sides, row)[0] == 0]
                 self.assertEqual(len(right), number, sides)
 
