@@ -1,13 +1,17 @@
-"""Packets of a folded sheet: when one is right, and what one fold makes of it.
+"""Packets of a folded sheet: when one is right, what one fold makes of it, and the fewest folds to it.
 
 A square of a packet is the tuple (x, y, turned left to right, turned bottom to top, layer). What is said of
 x and of y alike takes an axis, 0 for x and 1 for y: square[axis] and square[TURNED + axis] belong together.
 
 A fold is the tuple (upright, k, high, over, held), so that it is told as it stands.
+
+A level is a dict: its packets, in order, each with its row of folds.
 """
 
 MOST_SQUARES = 6
 FURTHEST = 100
+MOST_FOLDS = 4
+MOST_BEFORE_A_LEVEL = 120
 
 NUMBERS = 5
 TURNED = 2
@@ -18,6 +22,8 @@ LINE = 1
 HIGH = 2
 OVER = 3
 HELD = 4
+
+NUMBERS_SEEN = 3
 
 
 def moves(w, h, packet):
@@ -37,6 +43,22 @@ def move(w, h, k, packet):
     if k >= len(found):
         return [-2]
     return answered_row(list(found[k][0]) + row_of(found[k][1]))
+
+
+def way(w, h, n, packet):
+    """Answer the fewest folds to the packet, sought within n folds."""
+    refused = [-1] if n > MOST_FOLDS else refusal(w, h, packet)
+    if len(refused) > 0:
+        return refused
+    wanted = tuple(at_home(squares_of(packet)))
+    return sought(w, h, n, lambda squares: squares == wanted)
+
+
+def show(w, h, n, row):
+    """Answer the fewest folds to a packet that looks as the row tells, sought within n folds."""
+    if n > MOST_FOLDS or not is_sheet(w, h) or not is_face(w, h, row):
+        return [-1]
+    return sought(w, h, n, lambda squares: face_of(squares) == row)
 
 
 def answered_row(row):
@@ -70,6 +92,11 @@ def is_square(square):
         if not 0 <= square[TURNED + axis] <= 1:
             return False
     return square[LAYER] >= 0
+
+
+def is_face(w, h, row):
+    seen = [row[start:start + NUMBERS_SEEN] for start in range(0, len(row), NUMBERS_SEEN)]
+    return all([len(told) == NUMBERS_SEEN and min(told) >= 0 and told[2] < w * h for told in seen])
 
 
 def squares_of(row):
@@ -285,3 +312,50 @@ def rank(square, fold, goes):
 
 def new_layer(placed, ranks, c):
     return len([d for d in range(len(placed)) if same_place(placed[d], placed[c]) and ranks[d] < ranks[c]])
+
+
+def sought(w, h, n, is_wanted):
+    """Answer the row of folds to the first packet that is wanted, within n folds."""
+    levels = levels_made(w, h, n)
+    for level in levels:
+        for packet in level:
+            if is_wanted(packet):
+                return answered_row(level[packet])
+    return [-2] if len(levels) > n else [-6]
+
+
+def levels_made(w, h, n):
+    """Give the levels from 0 to n, or those ahead of the first that isn't made."""
+    levels = [{flat_sheet(w, h): []}]
+    while len(levels) <= n and sum([len(level) for level in levels]) <= MOST_BEFORE_A_LEVEL:
+        levels.append(level_after(w, levels))
+    return levels
+
+
+def flat_sheet(w, h):
+    return tuple([(c % w, c // w, 0, 0, 0) for c in range(w * h)])
+
+
+def level_after(w, levels):
+    # Packets are gone through by their rows and folds in order, so the first row to come to one is its least.
+    last = levels[-1]
+    level = {}
+    for packet in last:
+        for fold, comes_to in moves_of(w, packet):
+            if not any([comes_to in earlier for earlier in levels]):
+                level.setdefault(comes_to, last[packet] + list(fold))
+    return level
+
+
+def face_of(squares):
+    """Give the row of what is seen of a packet: of each place x, y and the square on top."""
+    on_top = {}
+    for c, square in enumerate(squares):
+        # y stands first, so that sorted places are in the order in which they are told.
+        place = (square[1], square[0])
+        if place not in on_top or above(squares, c, on_top[place]):
+            on_top[place] = c
+    row = []
+    for place in sorted(on_top):
+        row.extend([place[1], place[0], on_top[place]])
+    return row

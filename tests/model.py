@@ -153,13 +153,60 @@ def after_fold(w, h, row, fold):
     return homed([n for square in made for n in square])
 
 
-def moves(w, h, row):
-    """The list of (fold, row) of all moves of a packet, the folds tried far beyond its ends."""
+def folds(w, h, row):
+    """The (fold, row) of all folds of a packet that can be done, in order, tried far beyond its ends."""
     row = homed(row)
-    seen, found = [], []
     for fold in product((0, 1), range(0, 8), (0, 1), (0, 1), range(w * h)):
         made = after_fold(w, h, row, fold)
-        if made is not None and made not in seen:
+        if made is not None:
+            yield list(fold), made
+
+
+def moves(w, h, row):
+    """The list of (fold, row) of all moves of a packet."""
+    seen, found = [], []
+    for fold, made in folds(w, h, row):
+        if made not in seen:
             seen.append(made)
-            found.append((list(fold), made))
+            found.append((fold, made))
     return found
+
+
+def fold_rows(w, h, n):
+    """All (row of n folds, row that it comes to) of the flat sheet, none left out: for few folds of small sheets."""
+    found = [([], flat(w, h))]
+    for _ in range(n):
+        found = [(before + fold, made) for before, row in found for fold, made in folds(w, h, row)]
+    return found
+
+
+def levels(w, h, n):
+    """Levels 0 to n, ahead of the first that isn't made: of each the list of (row of folds, packet's row)."""
+    made = [[([], flat(w, h))]]
+    while len(made) <= n and sum(len(level) for level in made) <= 120:
+        known = {tuple(row) for level in made for _, row in level}
+        least = {}
+        for before, row in made[-1]:
+            for fold, to in folds(w, h, row):
+                least[tuple(to)] = min(before + fold, least.get(tuple(to), [9]))
+        made.append(sorted((told, list(to)) for to, told in least.items() if to not in known))
+    return made
+
+
+def replayed(w, h, told):
+    """The row that a row of folds makes of the flat sheet, None if one of them can't be done."""
+    row = flat(w, h)
+    for i in range(0, len(told), 5):
+        row = None if row is None else after_fold(w, h, row, told[i:i + 5])
+    return row
+
+
+def face(row):
+    """What is seen of a packet at home from above, three numbers for each place."""
+    tops = [(y, x, pile[-1]) for (x, y), pile in piles(homed(row)).items()]
+    return [n for y, x, c in sorted(tops) for n in (x, y, c)]
+
+
+def right_packets(w, h):
+    """Rows at home of all right packets, however turned."""
+    return [row for row in packets(w, h) if crossing(w, h, row) is None]

@@ -87,6 +87,8 @@ class Interface(unittest.TestCase):
     def test_names_and_arguments(self):
         self.assertEqual(list(inspect.signature(packets.moves).parameters), ["w", "h", "packet"])
         self.assertEqual(list(inspect.signature(packets.move).parameters), ["w", "h", "k", "packet"])
+        self.assertEqual(list(inspect.signature(packets.way).parameters), ["w", "h", "n", "packet"])
+        self.assertEqual(list(inspect.signature(packets.show).parameters), ["w", "h", "n", "row"])
 
 
 if __name__ == "__main__":
