@@ -1,4 +1,4 @@
-"""Packets of a folded sheet: when one is right, what one fold makes of it, and the fewest folds to it.
+"""Packets of a folded sheet: when one is right, what one fold makes of it, the fewest folds to it, and levels.
 
 A square of a packet is the tuple (x, y, turned left to right, turned bottom to top, layer). What is said of
 x and of y alike takes an axis, 0 for x and 1 for y: square[axis] and square[TURNED + axis] belong together.
@@ -59,6 +59,16 @@ def show(w, h, n, row):
     if n > MOST_FOLDS or not is_sheet(w, h) or not is_face(w, h, row):
         return [-1]
     return sought(w, h, n, lambda squares: face_of(squares) == row)
+
+
+def count(w, h, n):
+    """Answer how many packets level n has."""
+    return told_of_level(w, h, n, lambda level: [0, len(level)])
+
+
+def kth(w, h, n, k):
+    """Answer the row of level n's k-th packet."""
+    return told_of_level(w, h, n, lambda level: answered_row(row_of(level[k])) if k < len(level) else [-2])
 
 
 def answered_row(row):
@@ -322,6 +332,14 @@ def sought(w, h, n, is_wanted):
             if is_wanted(packet):
                 return answered_row(level[packet])
     return [-2] if len(levels) > n else [-6]
+
+
+def told_of_level(w, h, n, tell):
+    """Answer what is told of the list of level n's packets, or the refusal that is due ahead of it."""
+    if n > MOST_FOLDS or not is_sheet(w, h):
+        return [-1]
+    levels = levels_made(w, h, n)
+    return tell(list(levels[n])) if len(levels) > n else [-6]
 
 
 def levels_made(w, h, n):

@@ -89,6 +89,8 @@ class Interface(unittest.TestCase):
         self.assertEqual(list(inspect.signature(packets.move).parameters), ["w", "h", "k", "packet"])
         self.assertEqual(list(inspect.signature(packets.way).parameters), ["w", "h", "n", "packet"])
         self.assertEqual(list(inspect.signature(packets.show).parameters), ["w", "h", "n", "row"])
+        self.assertEqual(list(inspect.signature(packets.count).parameters), ["w", "h", "n"])
+        self.assertEqual(list(inspect.signature(packets.kth).parameters), ["w", "h", "n", "k"])
 
 
 if __name__ == "__main__":

@@ -164,7 +164,6 @@ class AgainstTheModel(unittest.TestCase):
                     self.assertEqual(way(w, h, n, row), [0, 5 * n] + told, (w, h, n, row))
 
     def test_the_levels_themselves(self):
-        # No call so far tells a packet that would stand in a second level too.
         for w, h in model.SHEETS:
             for n in range(5):
                 made = [[(level[squares], row_of(squares)) for squares in level] for level in levels_made(w, h, n)]
