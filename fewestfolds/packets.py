@@ -71,6 +71,11 @@ def kth(w, h, n, k):
     return told_of_level(w, h, n, lambda level: answered_row(row_of(level[k])) if k < len(level) else [-2])
 
 
+def piles(w, h, n):
+    """Answer how many packets of level n lie all on one place."""
+    return told_of_level(w, h, n, lambda level: [0, len([squares for squares in level if is_pile(squares)])])
+
+
 def answered_row(row):
     return [0, len(row)] + row
 
@@ -128,6 +133,10 @@ def at_home(squares):
 
 def same_place(square, other):
     return square[0] == other[0] and square[1] == other[1]
+
+
+def is_pile(squares):
+    return all([same_place(square, squares[0]) for square in squares])
 
 
 def beside(w, c, d):

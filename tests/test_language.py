@@ -91,6 +91,7 @@ class Interface(unittest.TestCase):
         self.assertEqual(list(inspect.signature(packets.show).parameters), ["w", "h", "n", "row"])
         self.assertEqual(list(inspect.signature(packets.count).parameters), ["w", "h", "n"])
         self.assertEqual(list(inspect.signature(packets.kth).parameters), ["w", "h", "n", "k"])
+        self.assertEqual(list(inspect.signature(packets.piles).parameters), ["w", "h", "n"])
 
 
 if __name__ == "__main__":
